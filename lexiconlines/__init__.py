@@ -1,0 +1,1 @@
+"""Lexiconlines: words of a machine in dictionary order."""

@@ -1,0 +1,125 @@
+"""What many tests need: books, strings, values of all kinds, and a check of errors."""
+
+import itertools
+import random
+import unittest
+
+from lexiconlines.books import Book
+
+# All strings of a and b; a, ba, bba and so on; a then b; and books without endless rings.
+TWO = Book.read("x a0 b0\n")
+ROW = Book.read("- a1 b0\nx\n")
+STEP = Book.read("x a0 b1\nx b1\n")
+NOTHING = Book.read("-\n")
+EMPTY_WORD = Book.read("y\n")
+
+ANY_VALUES = [
+    None, True, False, 0, 1, -1, 7, 200, 10 ** 30, 10 ** 30 + 1, "", "-", "a", "ab", "e", "A", " ", "x", "w", "xy", "\n",
+    "a" * 41, (), [], ("a",), ["a"], ("", "", ""), ("x", None, None, None, None), ["x", None, None, None, None],
+    (("a", 1),), [("a", 1)], (["a", 1],), ((("a",), 1),), (None, True, False), ((((((("deep",),),),),),),), TWO, [TWO],
+]
+
+
+class LexiconCase(unittest.TestCase):
+    """A test case that can check errors with their attributes."""
+
+    def check_error(self, error, told, call, *args, **named):
+        """Checks that a call raises just this error with these attributes."""
+        with self.assertRaises(error) as caught:
+            call(*args, **named)
+        self.assertIs(caught.exception.__class__, error)
+        for name, value in told.items():
+            found = getattr(caught.exception, name)
+            self.assertEqual(found, value, f"{error.__name__}.{name}")
+            self.assertIs(found.__class__, value.__class__, f"{error.__name__}.{name}")
+
+
+def book(*lines):
+    """The book with these lines."""
+    return Book.read("".join(line + "\n" for line in lines))
+
+
+def ring(many, colors):
+    """A book of so many nodes that lead around by a; colors tells which nodes have a color."""
+    return Book([(colors.get(at, ""), (at + 1) % many, None, None, None) for at in range(many)])
+
+
+def chain(many, color="x"):
+    """A book of so many nodes that lead on by a, with a color at the end."""
+    nodes = [("", at + 1, None, None, None) for at in range(many - 1)]
+    return Book(nodes + [(color, None, None, None, None)])
+
+
+def begun_at(one, node):
+    """The book whose start is another node: the start and this node exchange their indexes."""
+    places = {0: node, node: 0}
+    nodes = [(row[0], *[places.get(child, child) for child in row[1:]]) for row in one.nodes()]
+    nodes[0], nodes[node] = nodes[node], nodes[0]
+    return Book(nodes)
+
+
+def strings(letters, most):
+    """All strings of these letters of at most so many letters, in short order."""
+    for many in range(most + 1):
+        for row in itertools.product(letters, repeat=many):
+            yield "".join(row)
+
+
+def short(word):
+    """The key of short order."""
+    return (len(word), word)
+
+
+def words_of(one, letters, most):
+    """The colors of the words of a book that have at most so many of these letters, in short order."""
+    nodes = one.nodes()
+    front = [("", 0)]
+    found = {}
+    for _ in range(most + 1):
+        further = []
+        for word, at in front:
+            if nodes[at][0]:
+                found[word] = nodes[at][0]
+            for letter in letters:
+                child = nodes[at]["abcd".index(letter) + 1]
+                if child is not None:
+                    further.append((word + letter, child))
+        front = further
+    return found
+
+
+def random_book(dice, most_nodes, letters, children, colors):
+    """A book with some nodes, drawn by a random source; the last two are how often children and colors occur."""
+    many = dice.randint(1, most_nodes)
+    nodes = []
+    for _ in range(many):
+        row = [dice.choice("xyz") if dice.random() < colors else ""]
+        for letter in "abcd":
+            row.append(dice.randrange(many) if letter in letters and dice.random() < children else None)
+        nodes.append(tuple(row))
+    return Book(nodes)
+
+
+def random_books(seed, many, most_nodes=5):
+    """Pairs of a book and its letters."""
+    dice = random.Random(seed)
+    for _ in range(many):
+        letters = dice.choice(["a", "ab", "ab", "bd", "abc"])
+        yield random_book(dice, most_nodes, letters, dice.choice([0.4, 0.6, 0.9]), dice.choice([0.2, 0.5, 0.9])), letters
+
+
+def reach_of(letters):
+    """A length up to which all strings of these letters can be looked through."""
+    return {1: 13, 2: 8, 3: 5}[len(letters)]
+
+
+def least_size(one):
+    """The number of nodes of the least form, by telling live nodes apart as long as that is possible."""
+    nodes = one.nodes()
+    kinds = {node: nodes[node][0] for node in one.live()}
+    while True:
+        around = {node: (kinds[node], *[kinds.get(child) for child in nodes[node][1:]]) for node in kinds}
+        numbers = {kind: number for number, kind in enumerate(dict.fromkeys(around.values()))}
+        if len(numbers) == len(set(kinds.values())):
+            return max(1, len(numbers))
+        kinds = {node: numbers[around[node]] for node in kinds}

@@ -1,0 +1,61 @@
+"""The interface: each name stands in its file, with the arguments of the document."""
+
+import importlib
+import inspect
+import unittest
+
+FUNCTIONS = {
+    "words": ["is_word(value)", "is_color(value)", "is_name(value)", "in_short_order(words)"],
+    "least": ["least(book)", "parting_word(book, one, other, *, colors=True)",
+              "first_difference(one, other, *, colors=True)", "same_words(one, other, *, colors=True)"],
+    "listing": ["by_length(book, most=20)", "words_upto(book, length)", "count_of_length(book, length)",
+                "count_words(book)", "is_finite(book)", "shortest(book)"],
+    "languages": ["only(book, color)", "without(book, color)", "over(one, other)", "common(one, other)",
+                  "under(book, word)", "behind(book, word)", "coded(book, code)", "recolored(book, **colors)"],
+    "spans": ["below(book, word)", "above(book, word)", "between(book, *, low=None, high=None)",
+              "distance(book, one, other)"],
+    "far": ["is_far(value)", "far_length(far)", "far_letter(far, at)", "compare(one, other)", "plain(far)",
+            "far_color(book, far)"],
+    "falls": ["is_fall(book, value)", "is_rise(book, value)", "falls_to(book, word, value)",
+              "rises_to(book, word, value)"],
+    "steps": ["first_word(book)", "last_word(book)", "next_word(book, word)", "previous_word(book, word)",
+              "upward(book, word, most)", "in_block(book, one, other)"],
+    "farsteps": ["step(book, far, *, by=1)"],
+    "classes": ["classes(book)", "class_of(book, node)", "class_letters(book, node)", "branches(book, node)"],
+}
+METHODS = {
+    ("books", "Book"): ["__init__(self, nodes)", "nodes(self)", "node_at(self, word, *, start=0)", "color_of(self, word)",
+                        "check(self, word)", "live(self)", "has_words(self, node=0)", "text(self)", "read(text)"],
+}
+OPERATORS = {("books", "Book"): ["__contains__", "__eq__", "__len__", "__str__", "__repr__"]}
+GENERATORS = [("listing", "by_length"), ("steps", "upward")]
+
+
+def module_of(name):
+    return importlib.import_module(f"lexiconlines.{name}")
+
+
+class InterfaceTest(unittest.TestCase):
+
+    def test_functions(self):
+        for name, told in FUNCTIONS.items():
+            for line in told:
+                found = getattr(module_of(name), line.partition("(")[0])
+                self.assertEqual(found.__module__, f"lexiconlines.{name}")
+                self.assertEqual(found.__name__ + str(inspect.signature(found)), line)
+
+    def test_methods_stand_in_the_class_itself(self):
+        for (name, title), told in METHODS.items():
+            found = getattr(module_of(name), title)
+            self.assertEqual(found.__module__, f"lexiconlines.{name}")
+            for line in told:
+                method = found.__dict__[line.partition("(")[0]]
+                method = method.__func__ if isinstance(method, staticmethod) else method
+                self.assertEqual(method.__name__ + str(inspect.signature(method)), line)
+            for operator in OPERATORS[name, title]:
+                self.assertIn(operator, found.__dict__)
+        self.assertIsInstance(module_of("books").Book.__dict__["read"], staticmethod)
+
+    def test_generators(self):
+        for name, title in GENERATORS:
+            self.assertTrue(inspect.isgeneratorfunction(getattr(module_of(name), title)), title)
