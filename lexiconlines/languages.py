@@ -61,7 +61,7 @@ def coded(book, code):
     for at, node in enumerate(net):
         for word, child in zip(code, node[1:]):
             if child is not None:
-                _lay(rows, at, word, child)
+                _lead(rows, at, word, child)
     return exact_book([tuple(row) for row in rows])
 
 
@@ -92,7 +92,7 @@ def _painted(book, colors):
     return exact_book([(colors.get(node[0], node[0]),) + node[1:] for node in book.nodes()])
 
 
-def _lay(rows, at, word, goal):
+def _lead(rows, at, word, goal):
     """Puts nodes into rows, as far as they are missing, so that a word leads from a node to another one."""
     for letter in word[:-1]:
         place = PLACES[letter]

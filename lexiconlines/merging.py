@@ -39,7 +39,7 @@ class Merging:
         parts = []
         at = first
         for nodes in groups.values():
-            self._lay(nodes, at)
+            self._put(nodes, at)
             parts.append((at, at + len(nodes)))
             at = at + len(nodes)
         # Nodes that did not wait are alike, and unlike all that did: no child of theirs has moved.
@@ -52,7 +52,7 @@ class Merging:
         color, *children = self._net[node]
         return (color,) + tuple([None if child is None else self._block[child] for child in children])
 
-    def _lay(self, nodes, at):
+    def _put(self, nodes, at):
         for step, node in enumerate(nodes):
             self._row[at + step] = node
             self._at[node] = at + step
@@ -88,6 +88,6 @@ class Merging:
         if self._waiting[block] == 0:
             self._queue.append(block)
         other = self._row[at]
-        self._lay([other], self._at[node])
-        self._lay([node], at)
+        self._put([other], self._at[node])
+        self._put([node], at)
         self._waiting[block] += 1
