@@ -17,13 +17,13 @@ def classes(book):
 def class_of(book, node):
     """The list of the nodes of the class of a node, empty if it is of none."""
     _check_node(book, node)
-    return _fellows(class_heads(book), node)
+    return fellows_of(class_heads(book), node)
 
 
 def class_letters(book, node):
     """The string of the letters by which a node leads to a child of its class, ascending."""
     _check_node(book, node)
-    return _letters_within(book.nodes(), class_heads(book), node)
+    return letters_within(book.nodes(), class_heads(book), node)
 
 
 def branches(book, node):
@@ -31,7 +31,7 @@ def branches(book, node):
     _check_node(book, node)
     net = book.nodes()
     heads = class_heads(book)
-    return any([len(_letters_within(net, heads, other)) >= 2 for other in _fellows(heads, node)])
+    return any([len(letters_within(net, heads, other)) >= 2 for other in fellows_of(heads, node)])
 
 
 def class_heads(book):
@@ -61,12 +61,13 @@ def _reached_nodes(book):
     return reached
 
 
-def _fellows(heads, node):
-    """The nodes of the class of a node; none if it is of no class."""
+def fellows_of(heads, node):
+    """The nodes of the class of a node, from what class_heads tells; none if it is of no class."""
     return [other for other, head in enumerate(heads) if head is not None and head == heads[node]]
 
 
-def _letters_within(net, heads, node):
+def letters_within(net, heads, node):
+    """The class letters of a node, from what class_heads tells; none if it is of no class."""
     if heads[node] is None:
         return ""
     children = [(letter, net[node][place]) for letter, place in PLACES.items()]

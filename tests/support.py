@@ -5,6 +5,8 @@ import random
 import unittest
 
 from lexiconlines.books import Book
+from lexiconlines.keys import Ladder
+from lexiconlines.terms import Term
 
 # All strings of a and b; a, ba, bba and so on; a then b; and books without endless rings.
 TWO = Book.read("x a0 b0\n")
@@ -17,6 +19,7 @@ ANY_VALUES = [
     None, True, False, 0, 1, -1, 7, 200, 10 ** 30, 10 ** 30 + 1, "", "-", "a", "ab", "e", "A", " ", "x", "w", "xy", "\n",
     "a" * 41, (), [], ("a",), ["a"], ("", "", ""), ("x", None, None, None, None), ["x", None, None, None, None],
     (("a", 1),), [("a", 1)], (["a", 1],), ((("a",), 1),), (None, True, False), ((((((("deep",),),),),),),), TWO, [TWO],
+    Term.empty(), Term.spot("x"), (Term.spot("x"),), Ladder(TWO), "[xy]", ("[xy]",), ((), (), ()), ((), ("x",), []),
 ]
 
 
@@ -123,3 +126,81 @@ def least_size(one):
         if len(numbers) == len(set(kinds.values())):
             return max(1, len(numbers))
         kinds = {node: numbers[around[node]] for node in kinds}
+
+
+def random_signs(dice, most, signs):
+    """A tuple of at most so many signs."""
+    return tuple(dice.choice(signs) for _ in range(dice.randint(0, most)))
+
+
+def random_row(dice, signs, most=4):
+    """A row of these signs."""
+    while True:
+        row = tuple(random_signs(dice, most, signs) if dice.random() < 0.7 else () for _ in range(3))
+        if any(row):
+            return row
+
+
+def random_term(dice, height, colors):
+    """A term of at most this height."""
+    chance = dice.random()
+    if height == 0 or chance < 0.25:
+        return Term.spot(dice.choice(colors))
+    if chance < 0.5:
+        return total(*[random_term(dice, height - 1, colors) for _ in range(dice.randint(2, 3))])
+    if chance < 0.65:
+        return random_term(dice, height - 1, colors).up()
+    if chance < 0.8:
+        return random_term(dice, height - 1, colors).down()
+    return Term.shuffle(*[random_term(dice, height - 1, colors) for _ in range(dice.randint(1, 3))])
+
+
+def total(*terms):
+    """The sum of some terms."""
+    found = Term.empty()
+    for one in terms:
+        found = found + one
+    return found
+
+
+def retold(dice, term):
+    """A term of the same line, written otherwise by well-known equations."""
+    parts = [retold(dice, part) for part in term.parts]
+    if term.kind == "sum":
+        return total(*parts)
+    if term.kind == "up":
+        return retold_up(dice, parts[0])
+    if term.kind == "down":
+        # Down is up in the mirror.
+        return -retold_up(dice, -parts[0])
+    return retold_shuffle(dice, parts) if term.kind == "shuffle" else term
+
+
+def retold_up(dice, term):
+    way = dice.randrange(5)
+    if way == 0:
+        return term + term.up()
+    if way == 1:
+        return (term * dice.randint(2, 3)).up()
+    if way == 2 and term.kind == "sum":
+        many = dice.randint(1, len(term.parts) - 1)
+        first, second = total(*term.parts[:many]), total(*term.parts[many:])
+        return first + (second + first).up()
+    return term.up()
+
+
+def retold_shuffle(dice, parts):
+    even = Term.shuffle(*parts)
+    return dice.choice([
+        even, even + even, even + dice.choice(parts) + even, Term.shuffle(even, *parts), even.down(),
+        Term.shuffle(*parts, dice.choice(parts) + even + dice.choice(parts)), (even + dice.choice(parts)).up(),
+        (dice.choice(parts) + even).down(), even.up(),
+    ])
+
+
+def grown(many, step):
+    """A term made by so many steps from a single spot."""
+    term = Term.spot("x")
+    for at in range(many):
+        term = step(term, at)
+    return term

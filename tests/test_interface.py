@@ -22,12 +22,38 @@ FUNCTIONS = {
               "upward(book, word, most)", "in_block(book, one, other)"],
     "farsteps": ["step(book, far, *, by=1)"],
     "classes": ["classes(book)", "class_of(book, node)", "class_letters(book, node)", "branches(book, node)"],
+    "ways": ["first_way(book, node)", "last_way(book, node)", "kinds_of_gap(book, node)"],
+    "places": ["place_of(book, word)", "is_place(book, value)", "place_order(book, one, other)",
+               "gap_inside(book, kind, *, low=None, high=None)"],
+    "rows": ["is_row(value)", "is_sign(value)", "least_row(row)", "row_text(row)", "shape(row)", "spot_at(row, at)",
+             "same_rows(one, other)", "joined_rows(one, other)", "mirrored_row(row)", "even_sign(signs)", "read_sign(text)"],
+    "terms": ["sign_term(sign)", "mirrored_sign(sign)"],
+    "signs": ["expansion(sign)"],
+    "plain": ["term_of(book, *, node=0)", "left_term(book, node)", "right_term(book, node)", "gap_terms(book, node)",
+              "as_term(line)"],
+    "machines": ["book_of(term)", "joined(*books)", "repeated(book, *, down=False)", "shuffled(*books)", "mirrored(book)",
+                 "filled(book, **books)"],
+    "folding": ["first_folding(term)"],
+    "evens": ["second_folding(term)"],
+    "dense": ["has_dense(line)", "is_dense(book, value)", "dense_paper(book)"],
+    "keys": ["key_of(line)", "same_line(one, other)", "rank_of(line)"],
+    "pieces": ["piece(book, word, level)", "pieces(book, word)"],
+    "parting": ["parting(one, other)"],
 }
 METHODS = {
     ("books", "Book"): ["__init__(self, nodes)", "nodes(self)", "node_at(self, word, *, start=0)", "color_of(self, word)",
                         "check(self, word)", "live(self)", "has_words(self, node=0)", "text(self)", "read(text)"],
+    ("terms", "Term"): ["empty()", "spot(color)", "shuffle(first=None, *others)", "read(text)", "mirror(self)", "up(self)",
+                        "down(self)", "filled(self, **terms)", "signs(self)", "text(self)"],
+    ("keys", "Ladder"): ["__init__(self, line)", "term_at(self, n)", "signs_at(self, n)", "levels(self)"],
 }
-OPERATORS = {("books", "Book"): ["__contains__", "__eq__", "__len__", "__str__", "__repr__"]}
+OPERATORS = {
+    ("books", "Book"): ["__contains__", "__eq__", "__len__", "__str__", "__repr__"],
+    ("terms", "Term"): ["__add__", "__mul__", "__neg__", "__eq__", "__bool__", "__len__", "__str__", "__repr__"],
+    ("keys", "Ladder"): ["__len__", "__repr__"],
+}
+STATIC = {("books", "Book"): ["read"], ("terms", "Term"): ["empty", "spot", "shuffle", "read"], ("keys", "Ladder"): []}
+PROPERTIES = {("books", "Book"): [], ("terms", "Term"): ["height", "is_empty"], ("keys", "Ladder"): ["end", "key"]}
 GENERATORS = [("listing", "by_length"), ("steps", "upward")]
 
 
@@ -54,8 +80,11 @@ class InterfaceTest(unittest.TestCase):
                 self.assertEqual(method.__name__ + str(inspect.signature(method)), line)
             for operator in OPERATORS[name, title]:
                 self.assertIn(operator, found.__dict__)
-        self.assertIsInstance(module_of("books").Book.__dict__["read"], staticmethod)
+            for kind, names in ((staticmethod, STATIC), (property, PROPERTIES)):
+                held = [told for told, value in found.__dict__.items() if isinstance(value, kind)]
+                self.assertEqual(sorted(held), sorted(names[name, title]))
 
     def test_generators(self):
         for name, title in GENERATORS:
             self.assertTrue(inspect.isgeneratorfunction(getattr(module_of(name), title)), title)
+        self.assertTrue(inspect.isgeneratorfunction(module_of("keys").Ladder.levels))

@@ -31,6 +31,8 @@ BANNED_NAMES = set("""
     credits delattr dir eval exec exit gc globals help id importlib license locals methodcaller attrgetter os quit
     setattr vars sys
 """.split())
+BANNED_BEGINNINGS = r"^(_wall|_pe_|_dcw_|_enum_|_cm_|_twin_re_|_lay_|_law_|_stub_|_sre|_WallAttr)"
+BANNED_PRIVATE = r"^(_cold|_tuplegetter|_outside|_record|_written_out|_member_names)[0-9_]*$"
 BANNED_NODES = (ast.AsyncFunctionDef, ast.AsyncFor, ast.AsyncWith, ast.Await, ast.Global, ast.Div, ast.MatMult,
                 ast.AnnAssign)
 ITERATORS = {"zip", "enumerate", "reversed", "range", "map"}
@@ -180,10 +182,36 @@ class LanguageTest(unittest.TestCase):
                 where = f"{name}:{node.lineno} {bound}"
                 self.assertRegex(bound, r"^(_|_?[A-Za-z][A-Za-z0-9_]*|__[a-z]+__)$", where)
                 self.assertNotIn(bound, BANNED_NAMES, where)
+                self.assertNotRegex(bound, BANNED_BEGINNINGS, where)
+                self.assertNotRegex(bound, BANNED_PRIVATE, where)
                 if node not in methods:
                     self.assertFalse(hasattr(builtins, bound), where)
                 if not isinstance(node, (ast.alias, ast.ClassDef)):
                     self.assertNotIn(bound, top, where)
+
+    def test_names_of_methods(self):
+        """Properties, static methods and generators share their names with nothing else."""
+        plain, special, generators, functions = set(), set(), set(), []
+        for _, node, parent in self.each(ast.FunctionDef):
+            functions.append(node.name)
+            if any(isinstance(inner, (ast.Yield, ast.YieldFrom)) for inner in ast.walk(node)):
+                generators.add(node.name)
+            if isinstance(parent, ast.ClassDef):
+                (special if node.decorator_list else plain).add(node.name)
+        attributes = {node.attr for _, node, _ in self.each(ast.Attribute) if isinstance(node.ctx, ast.Store)}
+        self.assertEqual(special & (plain | attributes | METHODS), set())
+        self.assertEqual({name for name in generators if functions.count(name) > 1}, set())
+        for where, node, _ in self.each(ast.ClassDef):
+            methods = {item.name for item in node.body if isinstance(item, ast.FunctionDef)}
+            held = {inner.attr for inner in ast.walk(node) if isinstance(inner, ast.Attribute)
+                    and isinstance(inner.ctx, ast.Store)}
+            self.assertEqual(methods & held, set(), where)
+
+    def test_module_level_values(self):
+        for where, node, parent in self.each(ast.List, ast.Dict, ast.Tuple):
+            if isinstance(parent, ast.Assign) and parent in self.trees[where.partition(":")[0]].body:
+                for inner in ast.walk(node):
+                    self.assertTrue(inner is node or not isinstance(inner, (ast.List, ast.Dict)), where)
 
     def test_builtins(self):
         for name, tree in self.trees.items():
@@ -209,7 +237,7 @@ class LanguageTest(unittest.TestCase):
         for where, node, parent in self.each(ast.Set, ast.SetComp):
             self.fail(f"{where}: give a dict of True, or sorted(set(..))")
         for where, node, parent in self.each(ast.Call):
-            if called_name(node) == "set":
+            if called_name(node) == "set" and not isinstance(parent, ast.BinOp):
                 self.assertIn(called_name(parent), ("sorted", "len"), where)
 
     def test_generators_are_iterated_at_once(self):
