@@ -5,14 +5,16 @@ its last spot, if there are such spots, and between them at most one Term for al
 the whole line is one block, its row is the only entry.
 """
 
-from lexiconlines.bounds import MOST_ITEMS, bounded_sum
-from lexiconlines.errors import TooMany
+from lexiconlines.bounds import bounded, bounded_sum
 from lexiconlines.rowforms import row_sign
 from lexiconlines.terms import parts_first, shuffle_of, single, sum_of
 
 
 class BlockFolder:
-    """First foldings of terms; what was folded once is kept."""
+    """First foldings of terms; what was folded once is kept.
+
+    No folding of a part is greater than that of the whole, so TooMany may be raised on the way.
+    """
 
     def __init__(self):
         self._known = {}
@@ -25,10 +27,7 @@ class BlockFolder:
         """The entries of the first folding of a term."""
         missing = parts_first(term, self._known)
         for one in missing:
-            entries = self._made(one)
-            if sum([1 if is_block(entry) else len(entry) for entry in entries]) > MOST_ITEMS:
-                raise TooMany(MOST_ITEMS)
-            self._known[one.text()] = entries
+            self._known[one.text()] = self._made(one)
         return list(self._known[term.text()])
 
     def _made(self, term):
@@ -40,7 +39,7 @@ class BlockFolder:
         if term.kind == "down":
             return _down(parts[0])
         if term.kind == "shuffle":
-            return [shuffle_of([as_sum(part) for part in parts])]
+            return [bounded(shuffle_of([as_sum(part) for part in parts]))]
         return settled(joined_entries(parts))
 
 
@@ -92,6 +91,7 @@ def _ends(entries):
 
 
 def _up(entries):
+    """The entries of up of a term, from those of the term; its last block meets the first one of the next copy."""
     if len(entries) == 1 and is_block(entries[0]):
         left, middle, right = entries[0]
         if not left and not right:
@@ -105,6 +105,7 @@ def _up(entries):
 
 
 def _down(entries):
+    """The mirror of _up."""
     if len(entries) == 1 and is_block(entries[0]):
         left, middle, right = entries[0]
         if not left and not right:

@@ -82,6 +82,7 @@ class EvenFolder:
         return []
 
     def _up(self, entries):
+        """The entries of up of a term, from those of the term; even sets go on from copy to copy."""
         first, last = self._begins(entries), self._ends(entries)
         if len(last) == len(entries):
             return [last[0]]
@@ -95,6 +96,7 @@ class EvenFolder:
         return entries + behind if first else behind
 
     def _down(self, entries):
+        """The mirror of _up."""
         first, last = self._begins(entries), self._ends(entries)
         if len(first) == len(entries):
             return [first[-1]]

@@ -155,6 +155,20 @@ def random_term(dice, height, colors):
     return Term.shuffle(*[random_term(dice, height - 1, colors) for _ in range(dice.randint(1, 3))])
 
 
+def random_even_term(dice, height):
+    """A term in which many even sets meet one another."""
+    parts = []
+    for _ in range(dice.randint(1, 4)):
+        chance = dice.random()
+        if height == 0 or chance < 0.7:
+            parts.append(Term.read(dice.choice(["{x}", "{x}", "{y}", "{x,y}", "x", "x", "y", "z"])))
+        else:
+            inner = random_even_term(dice, height - 1)
+            other = random_even_term(dice, height - 1)
+            parts.append(inner.up() if chance < 0.8 else inner.down() if chance < 0.9 else Term.shuffle(inner, other))
+    return total(*parts)
+
+
 def total(*terms):
     """The sum of some terms."""
     found = Term.empty()

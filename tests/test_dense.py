@@ -124,6 +124,12 @@ class IsDenseTest(LexiconCase):
         self.assertIs(is_dense(book("x a0 b1", "- a0 b0"), ("", "a", "bb", "ba")), True)
         self.assertIs(is_dense(book("- a1 b0 c2", "- a0 b0", "x"), ("", "a", "b", "ac")), False)
 
+    def test_last_strings_that_lead_nowhere(self):
+        self.assertIs(is_dense(book("x a0 d0"), ("", "a", "d", "c")), False)
+        self.assertIs(is_dense(book("x a0 c1 d0", "-"), ("", "a", "d", "c")), False)
+        self.assertIs(is_dense(book("x a0 c1 d0", "y"), ("", "a", "d", "c")), True)
+        self.assertIs(is_dense(book("x a0 c1 d2", "y", "z a0 d0"), ("", "a", "d", "c")), False)
+
     def test_values_of_all_kinds(self):
         for value in ANY_VALUES + [["", "a", "b", "b"], ("", "a", "b"), ("", "a", "b", "b", ""), (None, "a", "b", "b"), ("", 1, "b", "b"),
                                    ("", "a", ["b"], "b"), ("", "a", "b", True), ("", "a", "b", "e"), ("x", "a", "b", "b"), "aabb"]:

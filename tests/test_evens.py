@@ -96,6 +96,8 @@ class SecondFoldingTest(LexiconCase):
             (old + new, "[{x}][{x}]"), (old + old, "[{x}][{x}]"), (new + old + new, "[{x}][{x}][{x}]"), (old.up(), "([{x}])>"),
             ((old + term("y")).up(), "([{x}]y)>"), (Term.shuffle(old), "[{[{x}]}]"), (Term.shuffle(old) + old + Term.shuffle(old), "[{[{x}]}]"),
             (Term.shuffle(old, new), "{[{x}]}"), (old + term("x") + new, "[{x}]x[{x}]"),
+            (Term.shuffle(old, term("y")) + new + Term.shuffle(old, term("y")), "[{[{x}],y}][{x}][{[{x}],y}]"),
+            ((Term.shuffle(old, term("y")) + new).up(), "[{[{x}],y}][{x}]([{[{x}],y}][{x}])>"),
         ]:
             self.assertEqual(second_folding(one).text(), told)
 

@@ -6,7 +6,8 @@ from lexiconlines.errors import TooMany
 from lexiconlines.evens import second_folding
 from lexiconlines.folding import first_folding
 from lexiconlines.terms import Term, sign_term
-from tests.support import LexiconCase, grown, random_term
+from tests.foldings_oracle import told_first, told_second
+from tests.support import LexiconCase, grown, random_even_term, random_term
 
 
 def term(text):
@@ -77,6 +78,25 @@ class FirstFoldingTest(LexiconCase):
         signs = sign_term("[{x}]") + sign_term("[xy]").down() + sign_term("z")
         self.assertEqual(first_folding(signs).text(), "[{x}][<([xy])z]")
         self.assertEqual(first_folding(term=sign_term("[xy]")).text(), "[xy]")
+
+    def test_random_terms(self):
+        dice = random.Random(212)
+        for _ in range(1000):
+            one = random_term(dice, dice.randint(1, 4), dice.choice(["x", "xy", "xyz"]))
+            one = one.filled(x=dice.choice([Term.spot("x"), sign_term("[{x}]"), sign_term("[<(x)y]")]))
+            self.assertEqual(first_folding(one), told_first(one), one)
+            other = first_folding(one)
+            self.assertEqual(second_folding(other), told_second(other), other)
+
+    def test_random_terms_with_even_sets(self):
+        dice = random.Random(213)
+        for _ in range(1000):
+            one = random_even_term(dice, dice.randint(0, 3))
+            self.assertEqual(second_folding(one), told_second(one), one)
+            self.assertEqual(second_folding(-one), told_second(-one), one)
+            self.assertEqual(first_folding(one), told_first(one), one)
+            other = first_folding(second_folding(one))
+            self.assertEqual(second_folding(other), told_second(other), other)
 
     def test_arguments_stay(self):
         one = term("(x{y}z)>")
