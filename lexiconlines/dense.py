@@ -2,7 +2,7 @@
 
 from lexiconlines.books import Book
 from lexiconlines.classways import ClassWays
-from lexiconlines.nets import shortest_word, walked, word_lengths
+from lexiconlines.nets import shortest_way, shortest_word, walked, word_lengths
 from lexiconlines.terms import parts_first
 from lexiconlines.words import is_letters
 
@@ -34,7 +34,7 @@ def dense_paper(book):
             back = high + ways.path(ways.child(node, high), node)
             g = back + y + shortest_word(net, word_lengths(net), node)
             # Behind back, g goes on with y, and back + back with a greater letter.
-            return (_path(net, node), y, back + back, g)
+            return (shortest_way(net, node), y, back + back, g)
     return None
 
 
@@ -53,10 +53,3 @@ def _all_words(net, x, turns, g):
                 return False
             waiting.extend([walked(net, node, turn) for turn in turns])
     return True
-
-
-def _path(net, goal):
-    """A shortest string that leads from the start to a node to which one leads."""
-    # If this node alone had a color, the strings that lead to it would be all words.
-    marked = [("x" if at == goal else "",) + node[1:] for at, node in enumerate(net)]
-    return shortest_word(marked, word_lengths(marked), 0)

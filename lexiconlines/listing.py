@@ -1,28 +1,12 @@
 """The words of a book: listed and counted."""
 
 from lexiconlines.nets import shortest_word, word_counts, word_lengths
-from lexiconlines.nodes import PLACES
+from lexiconlines.shortorder import longer, net_words
 
 
 def by_length(book, most=20):
     """Yields the first words of a book in short order, at most so many."""
-    net = book.nodes()
-    total = count_words(book)
-    left = most if total is None else min(most, total)
-    # For each number of letters: which nodes have a word with just so many letters.
-    tables = [[node[0] != "" for node in net]]
-    while left > 0:
-        length = len(tables) - 1
-        stack = [(0, "")] if tables[length][0] else []
-        while stack and left > 0:
-            node, word = stack.pop()
-            if len(word) == length:
-                yield word
-                left -= 1
-            else:
-                table = tables[length - len(word) - 1]
-                stack.extend([pair for pair in _longer(net, node, word) if table[pair[0]]])
-        tables.append(_one_longer(net, tables[length]))
+    yield from net_words(book.nodes(), most)
 
 
 def words_upto(book, length):
@@ -36,7 +20,7 @@ def words_upto(book, length):
         if net[node][0] != "":
             words.append(word)
         room = length - len(word) - 1
-        stack.extend([pair for pair in _longer(net, node, word) if _fits(lengths[pair[0]], room)])
+        stack.extend([pair for pair in longer(net, node, word) if _fits(lengths[pair[0]], room)])
     return words
 
 
@@ -73,17 +57,6 @@ def shortest(book):
 
 def _fits(shortest_length, room):
     return shortest_length is not None and shortest_length <= room
-
-
-def _longer(net, node, word):
-    """The pairs of a child of a node and its string, which is one letter longer; the last letter first."""
-    pairs = [(net[node][place], word + letter) for letter, place in PLACES.items()]
-    return [pair for pair in pairs[::-1] if pair[0] is not None]
-
-
-def _one_longer(net, table):
-    """Which nodes have a child in a table."""
-    return [any([child is not None and table[child] for child in node[1:]]) for node in net]
 
 
 def _ways_onward(net, lengths, ways):

@@ -66,6 +66,13 @@ def shortest_word(net, lengths, node):
     return word
 
 
+def shortest_way(net, goal):
+    """The first string, in short order, that leads from the start to a node to which one leads."""
+    # If this node alone had a color, the strings that lead to it would be all words.
+    marked = [("x" if at == goal else "",) + node[1:] for at, node in enumerate(net)]
+    return shortest_word(marked, word_lengths(marked), 0)
+
+
 def word_counts(net):
     """For each node the number of its words, or None if it has infinitely many."""
     lengths = word_lengths(net)

@@ -6,7 +6,7 @@ from lexiconlines.listing import by_length
 from lexiconlines.plain import as_term
 from lexiconlines.spots import Spots
 
-_MOST_WORDS = 5000
+MOST_WORDS = 5000
 
 
 def parting(one, other):
@@ -34,8 +34,8 @@ def parting_sign(one, other):
 def _first_with(book, level, sign):
     """The first word of a book in short order whose piece at a level has a sign."""
     spots = Spots(book)
-    for word in by_length(book, _MOST_WORDS):
+    for word in by_length(book, MOST_WORDS):
         # Each spot of a piece bears a color that its sign tells.
         if book.color_of(word) in sign and spots.sign_at(word, level) == sign:
             return word
-    raise TooMany(_MOST_WORDS)
+    raise TooMany(MOST_WORDS)

@@ -6,11 +6,8 @@ piece, the sign of the piece, and the term of all that lies above.
 
 from lexiconlines.blocks import BlockFolder, as_sum, joined_entries
 from lexiconlines.evensets import EvenFolder, whole
-from lexiconlines.least import least
-from lexiconlines.nets import trail
-from lexiconlines.nodes import PLACES
-from lexiconlines.plainterms import PlainTerms
 from lexiconlines.rowforms import row_sign
+from lexiconlines.stretches import Stretches
 from lexiconlines.terms import single, sum_of
 
 
@@ -18,9 +15,8 @@ class Spots:
     """Views of the words of a book; what was folded for one word serves for others, too."""
 
     def __init__(self, book):
-        exact = least(book)
-        self._net = exact.nodes()
-        self._plain = PlainTerms(exact)
+        self._book = book
+        self._stretches = Stretches(book)
         self._blocks = BlockFolder()
         self._evens = EvenFolder()
         self._onward = {}
@@ -43,23 +39,8 @@ class Spots:
 
     def _view(self, word):
         """The view of a word at level 0."""
-        nodes = trail(self._net, 0, word)
-        lows = []
-        highs = []
-        for node, letter in zip(nodes, word):
-            lows.extend(self._color(node) + self._children(node, [other for other in PLACES if other < letter]))
-            highs.append(sum_of(self._children(node, [other for other in PLACES if other > letter])))
-        behind = self._children(nodes[-1], list(PLACES))
-        return sum_of(lows), self._net[nodes[-1]][0], sum_of(behind + highs[::-1])
-
-    def _color(self, node):
-        color = self._net[node][0]
-        return [] if color == "" else [single(color)]
-
-    def _children(self, node, letters):
-        """The plain terms of the children of a node by some letters."""
-        children = [self._net[node][PLACES[letter]] for letter in letters]
-        return [self._plain.term(child) for child in children if child is not None]
+        low, high = self._stretches.parts(None, word), self._stretches.parts(word, None)
+        return sum_of(low), self._book.color_of(word), sum_of(high)
 
     def _next_view(self, n, view):
         """The view at level n + 1 from the view at level n."""

@@ -242,10 +242,11 @@ class LanguageTest(unittest.TestCase):
 
     def test_generators_are_iterated_at_once(self):
         names = {node.name for where, node, _ in self.each(ast.FunctionDef)
-                 if any(isinstance(inner, ast.Yield) for inner in ast.walk(node))}
+                 if any(isinstance(inner, (ast.Yield, ast.YieldFrom)) for inner in ast.walk(node))}
         for where, node, parent in self.each(ast.Call):
             if called_name(node) in names:
-                at_once = isinstance(parent, (ast.For, ast.comprehension)) or called_name(parent) in TAKERS - {"len"}
+                at_once = isinstance(parent, (ast.For, ast.comprehension, ast.YieldFrom))
+                at_once = at_once or called_name(parent) in TAKERS - {"len"}
                 self.assertTrue(at_once, where)
 
     def test_docstrings(self):
