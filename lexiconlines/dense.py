@@ -18,10 +18,7 @@ def is_dense(book, value):
     """Whether any value is a tuple that is dense in a book."""
     if not isinstance(value, tuple) or len(value) != 4 or not all([is_letters(item) for item in value]):
         return False
-    x, y, y2, g = value
-    if not y < g <= y2 or g.startswith(y):
-        return False
-    return _all_words(book.nodes(), x, (y, y2), g)
+    return is_dense_order(value) and has_dense_words(book, value)
 
 
 def dense_paper(book):
@@ -38,8 +35,16 @@ def dense_paper(book):
     return None
 
 
-def _all_words(net, x, turns, g):
-    """Whether x, any row of copies of some strings, and g always are a word."""
+def is_dense_order(value):
+    """Whether the strings of a tuple (x, y, y2, g) have the order of a dense one."""
+    _, y, y2, g = value
+    return y < g <= y2 and not g.startswith(y)
+
+
+def has_dense_words(book, value):
+    """Whether x u g is a word of a book for any row u of copies of y and y2, for a tuple (x, y, y2, g) of strings."""
+    x, y, y2, g = value
+    net = book.nodes()
     waiting = [walked(net, 0, x)]
     met = {}
     while waiting:
@@ -51,5 +56,5 @@ def _all_words(net, x, turns, g):
             end = walked(net, node, g)
             if end is None or net[end][0] == "":
                 return False
-            waiting.extend([walked(net, node, turn) for turn in turns])
+            waiting.extend([walked(net, node, turn) for turn in (y, y2)])
     return True

@@ -6,7 +6,8 @@ from lexiconlines.shortorder import longer, net_words
 
 def by_length(book, most=20):
     """Yields the first words of a book in short order, at most so many."""
-    yield from net_words(book.nodes(), most)
+    net = book.nodes()
+    yield from net_words(net, most)
 
 
 def words_upto(book, length):

@@ -74,7 +74,8 @@ class Matching:
         ahead, behind = self._keys.told(own.parts(low, word)), self._keys.told(own.parts(word, high))
         low, high = [None if pair is None else pair[1 - side] for pair in pairs]
         book = self._book(1 - side)
-        for found in net_words(_net_between(book, low, high), MOST_WORDS):
+        net = _net_between(book, low, high)
+        for found in net_words(net, MOST_WORDS):
             if book.color_of(found) == color and self._keys.is_told(other.parts(low, found), ahead):
                 if self._keys.is_told(other.parts(found, high), behind):
                     return found

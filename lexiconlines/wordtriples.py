@@ -20,6 +20,8 @@ class WordTriples:
 
     def first_with(self, triples):
         """The first word in short order that has one of some triples, or None if none of the first words has."""
+        if not triples:
+            return None
         wanted = {triple: True for triple in triples}
         colors = {color: True for color, _, _ in triples}
         lows = {(color, low): True for color, low, _ in triples}

@@ -62,6 +62,8 @@ def bound_names(tree):
             yield node.arg, node
         elif isinstance(node, ast.alias):
             yield node.asname or node.name, node
+        elif isinstance(node, ast.ExceptHandler) and node.name:
+            yield node.name, node
 
 
 class LanguageTest(unittest.TestCase):
