@@ -4,8 +4,12 @@ import itertools
 import random
 import unittest
 
+from lexiconlines.bench import Bench
 from lexiconlines.books import Book
+from lexiconlines.duels import Duel
 from lexiconlines.keys import Ladder
+from lexiconlines.matching import Matching
+from lexiconlines.ordinals import Ordinal
 from lexiconlines.terms import Term
 
 # All strings of a and b; a, ba, bba and so on; a then b; and books without endless rings.
@@ -14,12 +18,16 @@ ROW = Book.read("- a1 b0\nx\n")
 STEP = Book.read("x a0 b1\nx b1\n")
 NOTHING = Book.read("-\n")
 EMPTY_WORD = Book.read("y\n")
+# All x downward, and one y behind them.
+ENDING = Book.read("- a1 b2\n- a1 b3\ny\nx\n")
 
 ANY_VALUES = [
     None, True, False, 0, 1, -1, 7, 200, 10 ** 30, 10 ** 30 + 1, "", "-", "a", "ab", "e", "A", " ", "x", "w", "xy", "\n",
     "a" * 41, (), [], ("a",), ["a"], ("", "", ""), ("x", None, None, None, None), ["x", None, None, None, None],
     (("a", 1),), [("a", 1)], (["a", 1],), ((("a",), 1),), (None, True, False), ((((((("deep",),),),),),),), TWO, [TWO],
     Term.empty(), Term.spot("x"), (Term.spot("x"),), Ladder(TWO), "[xy]", ("[xy]",), ((), (), ()), ((), ("x",), []),
+    Ordinal((1, 1)), ("not", ("true",)), (("x", (), ()),), ("next", "", "a"), ("drop", "two"), Matching(ROW, ROW), Bench(),
+    Duel(TWO, ROW), [Bench()], ("put", "two", TWO),
 ]
 
 
@@ -218,3 +226,26 @@ def grown(many, step):
     for at in range(many):
         term = step(term, at)
     return term
+
+
+def late_book(many):
+    """A book with the line of all x downward and one y at the end, which stands behind so many words in short order.
+
+    Behind a, groups of 128 words of x go on downward; behind c are a few more of x; and behind d is the y.
+    The number is from 4993 to 5000.
+    """
+    groups = [("", 1, 2, None, None)] + [("", at + 1, at + 1, None, None) for at in range(2, 9)] + [("x", None, None, None, None)]
+    more = [("x", 11 + at, None, None, None) for at in range(many - 4993)] + [("x", None, None, None, None)]
+    far = 10 + len(more)
+    ending = [("", far + at + 1, None, None, None) for at in range(46)] + [("y", None, None, None, None)]
+    return Book([("", 1, None, 10, far)] + groups + more + ending)
+
+
+def random_formula(dice, nesting, colors):
+    """A formula that nests at most so deep."""
+    kind = dice.choice(["true", "false", "not", "and", "or", "some", "some", "some"]) if nesting > 0 else dice.choice(["true", "false"])
+    if kind in ("true", "false"):
+        return (kind,)
+    many = {"not": 1, "some": 2}.get(kind) or dice.randint(2, 3)
+    parts = [random_formula(dice, nesting - 1, colors) for _ in range(many)]
+    return (kind, dice.choice(colors), *parts) if kind == "some" else (kind, *parts)
