@@ -249,3 +249,10 @@ def random_formula(dice, nesting, colors):
     many = {"not": 1, "some": 2}.get(kind) or dice.randint(2, 3)
     parts = [random_formula(dice, nesting - 1, colors) for _ in range(many)]
     return (kind, dice.choice(colors), *parts) if kind == "some" else (kind, *parts)
+
+
+def bench_with(**books):
+    """A bench that keeps some books."""
+    bench = Bench()
+    bench.keep(**books)
+    return bench

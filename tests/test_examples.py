@@ -1,16 +1,23 @@
-"""The examples of the document, as far as their modules are there."""
+"""The examples of the document."""
 
+from lexiconlines.alllines import all_profiles
+from lexiconlines.bench import Bench
 from lexiconlines.books import Book
 from lexiconlines.errors import InvalidTerm, NoStep
 from lexiconlines.evens import second_folding
 from lexiconlines.far import compare
 from lexiconlines.farsteps import step
 from lexiconlines.folding import first_folding
+from lexiconlines.formulas import read_formula
 from lexiconlines.keys import Ladder, key_of, same_line
+from lexiconlines.matching import Matching
+from lexiconlines.ordinals import Ordinal
 from lexiconlines.parting import parting
 from lexiconlines.plain import term_of
+from lexiconlines.profiles import holds, profile_of
 from lexiconlines.steps import first_word, next_word, previous_word
 from lexiconlines.terms import Term
+from lexiconlines.wells import ordinal_of
 from tests.support import LexiconCase
 
 
@@ -50,3 +57,25 @@ class ExamplesTest(LexiconCase):
 
     def test_parting(self):
         self.assertEqual(parting(Book.read('x a0\n'), Book.read('x a0 b0\n')), (2, 1, '[{[(x)>]}]', 'b'))
+
+    def test_matchings(self):
+        matching = Matching(Book.read('- a1 b0\nx\n'), Book.read('- a1\nx a1\n'))
+        self.assertEqual([matching.mate(0, 'ba'), matching.mate(1, 'a'), matching.pairs()], ['aa', 'a', [('a', 'a'), ('ba', 'aa')]])
+
+    def test_ordinals(self):
+        self.assertEqual([ordinal_of(Term.read('(x(y)>)>xx')).text(), (Ordinal((1, 1)) + Ordinal((1, 2), (0, 5))).text(),
+                          (Ordinal((0, 2)) * Ordinal((1, 1))).text()], ['w^2+2', 'w*3+5', 'w'])
+
+    def test_formulas(self):
+        last = read_formula('some x [true | not some x [true | true]]')
+        self.assertEqual([holds(Term.read('<(x)'), last), holds(Term.read('(x)>'), last), profile_of(Term.read('(x)>'), 2)],
+                         [True, False, (('x', (), (('x', (), ()),)), ('x', (('x', (), ()),), (('x', (), ()),)))])
+
+    def test_all_lines(self):
+        self.assertEqual([len(all_profiles(1, 1)), len(all_profiles(2, 1)), len(all_profiles(1, 2))], [2, 4, 7])
+
+    def test_benches(self):
+        bench = Bench()
+        bench.do(('put', 'two', Book.read('x a0 b0\n')), ('put', 'row', Book.read('x a0\n')))
+        self.assertEqual([bench('names'), bench('words two 4'), bench('next two b'), bench('ordinal row'), bench('same two row'),
+                          bench('key six'), bench.steps()], ['row two', '- a b aa', 'ba', 'w', 'no', 'error UnknownName', (1, 0)])
