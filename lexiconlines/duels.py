@@ -89,14 +89,24 @@ def reply(one, other, side, word, depth):
     check_depth(depth, 1)
     table = ProfileTable()
     books = (one, other)
-    numbers = [table.of_term(as_term(book), depth) for book in books]
+    try:
+        numbers = [table.of_term(as_term(book), depth) for book in books]
+    except TooMany:
+        # That a term is too great is told behind all that is wrong with the other arguments.
+        _check_asked(books, side, word)
+        raise
     if numbers[0] != numbers[1]:
         raise Unlike(depth, "")
-    if not is_number_in(side, 0, 1):
-        raise InvalidNumber(side)
-    books[side].check(word)
+    _check_asked(books, side, word)
     triple = WordTriples(books[side], table, depth).triple(word)
     found = WordTriples(books[1 - side], table, depth).first_with([triple])
     if found is None:
         raise TooMany(MOST_WORDS)
     return found
+
+
+def _check_asked(books, side, word):
+    """Raises InvalidNumber, InvalidWord or NoWord unless a side is one and a word is a word of its book."""
+    if not is_number_in(side, 0, 1):
+        raise InvalidNumber(side)
+    books[side].check(word)

@@ -1,10 +1,18 @@
 """Conventions that hold for all functions: arguments, results and repeated calls."""
 
+import random
+
+from lexiconlines.alllines import all_profiles, is_shut, model, term_with
+from lexiconlines.bench import Bench
+from lexiconlines.benchtexts import replayed
 from lexiconlines.books import Book
 from lexiconlines.classes import class_of, classes
+from lexiconlines.deeds import is_deed
 from lexiconlines.dense import dense_paper
+from lexiconlines.duels import Duel
+from lexiconlines.errors import InvalidNumber
 from lexiconlines.evens import second_folding
-from lexiconlines.falls import falls_to
+from lexiconlines.falls import falls_to, is_fall
 from lexiconlines.far import plain
 from lexiconlines.farsteps import step
 from lexiconlines.folding import first_folding
@@ -12,18 +20,25 @@ from lexiconlines.keys import Ladder, key_of
 from lexiconlines.languages import coded, common, over, recolored, under
 from lexiconlines.least import least
 from lexiconlines.listing import by_length, words_upto
-from lexiconlines.machines import filled, joined, mirrored, repeated, shuffled
+from lexiconlines.machines import book_of, filled, joined, mirrored, repeated, shuffled
+from lexiconlines.matching import Matching
+from lexiconlines.ordinals import Ordinal
+from lexiconlines.papers import judged
 from lexiconlines.pieces import pieces
 from lexiconlines.places import gap_inside
 from lexiconlines.plain import gap_terms, term_of
+from lexiconlines.profiles import profile_of, shuffle_profile
 from lexiconlines.rows import even_sign, is_row, is_sign, least_row
 from lexiconlines.signs import expansion
 from lexiconlines.spans import between
 from lexiconlines.steps import first_word, next_word, previous_word, upward
+from lexiconlines.telling import least_depth, telling_formula
 from lexiconlines.terms import Term, sign_term
+from lexiconlines.triples import triple_of
 from lexiconlines.ways import kinds_of_gap
+from lexiconlines.wells import fall_paper, is_well, ordinal_of, rise_paper
 from lexiconlines.words import in_short_order
-from tests.support import ROW, STEP, TWO, LexiconCase, book
+from tests.support import ANY_VALUES, ROW, STEP, TWO, LexiconCase, bench_with, book, random_term, retold
 
 NODES = [("x", 0, 1, None, None), ("", 1, 0, None, 2), ("y", None, None, None, None)]
 
@@ -108,3 +123,77 @@ class ConventionsTest(LexiconCase):
     def test_terms_of_any_size_may_be_passed(self):
         term = Term.read("xy") * 40 * 40 * 2
         self.assertEqual((len(term), len(first_folding(term)), len(key_of(term))), (6400, 1, 6402))
+
+    def test_equal_to_no_value_of_another_class(self):
+        found = [one for one in ANY_VALUES if isinstance(one, (Book, Term, Ordinal, Bench))]
+        self.assertEqual({one.__class__ for one in found}, {Book, Term, Ordinal, Bench})
+        for one in found:
+            for other in ANY_VALUES:
+                if other.__class__ is not one.__class__:
+                    self.assertEqual([one == other, other == one, one != other, other != one], [False, False, True, True])
+
+    def test_true_and_false_are_no_numbers(self):
+        for paper in (("part", True, 0, ""), ("part", 0, False, "")):
+            self.assertEqual(judged(paper, TWO, ROW), "form")
+        self.assertIs(is_deed(("limit", True)), False)
+        self.check_error(InvalidNumber, {"number": 0}, Ordinal, (True, 1))
+
+    def test_long_words_go_on(self):
+        """Words that are returned, and papers with them, may be passed, however long they are."""
+        word = plain(step(ROW, (("a", 1),), by=300))
+        self.assertEqual(len(word), 301)
+        other = book("- a1", "x a1")
+        matching = Matching(ROW, other)
+        mate = matching.mate(0, word)
+        self.assertEqual((mate, matching.mate(1, "a" * 400)), ("a" * 301, "b" * 399 + "a"))
+        self.assertEqual(judged(("mate", word, mate), ROW, other), "")
+        self.assertEqual(judged(("next", word, "b" + word), ROW), "")
+        self.assertEqual(judged(("fall", None, "", "b", word), ROW), "order")
+        self.assertEqual(triple_of(ROW, word, 3), triple_of(other, mate, 3))
+        far = under(TWO, "c" * 120)
+        self.assertEqual(judged(("dense", *dense_paper(far)), far), "")
+        self.assertEqual(judged(("rise", None, *rise_paper(far)), far) in ("", "between"), True)
+        self.assertEqual(len(is_fall(far, fall_paper(far)) and fall_paper(far)[0]), 120)
+
+    def test_tuples_of_returned_values_may_be_passed(self):
+        profile = profile_of(TWO, 3)
+        self.assertEqual(shuffle_profile((profile, (), profile), 3), shuffle_profile([profile], 3))
+        self.assertEqual(is_shut(tuple(all_profiles(1, 2)) * 2, 1, 2), True)
+        formula = telling_formula(TWO, ROW)
+        self.assertIsNotNone(model((formula, ("not", ("not", formula)))))
+        self.assertEqual(replayed(tuple(bench_with(a=TWO).journal())).book("a"), TWO)
+
+    def test_calls_on_equal_states(self):
+        def results(bench):
+            with bench.draft() as draft:
+                draft.do(("up", "c", "a"))
+                draft.keep()
+            number = bench.match("a", "b")
+            return [bench.text(), bench.mate(number, 0, "ba"), bench.pairs(number), bench("part a c"), bench.shelf(), bench.tried(("mirror", "a", "a"))]
+
+        first, second = bench_with(a=ROW, b=book("x a0")), bench_with(b=book("x a0"), a=ROW)
+        twin = first.twin()
+        told = results(first)
+        self.assertEqual((results(second), results(twin)), (told, told))
+        one, other = Duel(TWO, ROW), Duel(TWO, ROW)
+        self.assertEqual(one.choose(), other.choose())
+        self.assertEqual(telling_formula(TWO, ROW), telling_formula(Book(TWO.nodes()), ROW))
+        self.assertEqual(term_with(profile_of(ROW, 2), 2, 2), term_with(profile_of(ROW, 2), 2, 2))
+
+    def test_lines_have_one_profile_and_one_ordinal(self):
+        """Whatever book or term a line is written in: keys, profiles and ordinals are those of the line."""
+        dice = random.Random(211)
+        for _ in range(40):
+            term = random_term(dice, 3, "xy")
+            other = retold(dice, term)
+            if len(term) > 20 or len(other) > 40:
+                continue
+            lines = [term, other, book_of(term), coded(book_of(other), ["a", "ba", "bb", "c"]), least(book_of(other)), mirrored(mirrored(book_of(term)))]
+            self.assertEqual(len({key_of(line) for line in lines}), 1)
+            self.assertEqual(len({profile_of(line, 3) for line in lines}), 1)
+            wells = [is_well(line) for line in lines]
+            self.assertEqual(len(set(wells)), 1)
+            if wells[0]:
+                self.assertEqual(len({ordinal_of(line).text() for line in lines}), 1)
+            self.assertEqual([least_depth(line, term) for line in lines], [None] * 6)
+            self.assertEqual(len(Matching(lines[2], lines[3])), 0)

@@ -258,6 +258,14 @@ class ReplyTest(LexiconCase):
         self.check_error(NoWord, {"word": "b", "place": 1}, reply, TWO, ROW, 1, "b", 1)
         self.check_error(NoWord, {"word": "ac", "place": 1}, reply, TWO, ROW, 0, "ac", 1)
 
+    def test_terms_that_are_too_great(self):
+        great = Book([("", at + 1, at + 1, at + 1, at + 1) for at in range(7)] + [("x", None, None, None, None)])
+        self.check_error(TooDeep, {"depth": 4}, reply, great, great, 2, "e", 4)
+        self.check_error(InvalidNumber, {"number": 2}, reply, great, TWO, 2, "e", 1)
+        self.check_error(InvalidWord, {"word": "e"}, reply, TWO, great, 1, "e", 1)
+        self.check_error(NoWord, {"word": "a", "place": 1}, reply, TWO, great, 1, "a", 1)
+        self.check_error(TooMany, {"count": 4000}, reply, TWO, great, 0, "a", 1)
+
     def test_late_replies(self):
         last = "d" + "a" * 46
         self.assertEqual(reply(ENDING, late_book(4999), 0, "b", 3), last)

@@ -251,6 +251,45 @@ class LanguageTest(unittest.TestCase):
                 at_once = at_once or called_name(parent) in TAKERS - {"len"}
                 self.assertTrue(at_once, where)
 
+    def test_arguments_beside_stars_and_of_generators(self):
+        names = {node.name for where, node, _ in self.each(ast.FunctionDef)
+                 if any(isinstance(inner, (ast.Yield, ast.YieldFrom)) for inner in ast.walk(node))}
+        for where, node, _ in self.each(ast.Call):
+            passed = node.args + [keyword.value for keyword in node.keywords]
+            starred = any(isinstance(it, ast.Starred) for it in passed) or any(it.arg is None for it in node.keywords)
+            if starred or called_name(node) in names:
+                for it in passed:
+                    it = it.value if isinstance(it, ast.Starred) else it
+                    self.assertIsInstance(it, (ast.Name, ast.Attribute, ast.Constant), where)
+
+    def test_handlers_and_with_blocks(self):
+        for where, node, _ in self.each(ast.Try):
+            for inner in node.finalbody:
+                self.assertIsInstance(inner, ast.Assign, where)
+                self.assertIsInstance(inner.value, ast.Constant, where)
+        for where, node, _ in self.each(ast.FunctionDef):
+            if node.name == "__exit__":
+                for inner in node.body:
+                    self.assertIsInstance(inner, ast.Assign, where)
+                    self.assertIsInstance(inner.value, ast.Constant, where)
+        for where, node, parent in self.each(ast.Call):
+            if called_name(node) == "type":
+                self.assertTrue(isinstance(parent, ast.Attribute) and parent.attr == "__name__", where)
+        for where, node, _ in self.each(ast.Lambda, ast.Nonlocal, ast.Match, ast.NamedExpr):
+            self.fail(f"{where}: not used here so far")
+
+    def test_orders(self):
+        """Classes with an order compare by one key, so that sorted, min and max may take anything."""
+        for where, node, _ in self.each(ast.ClassDef):
+            told = {item.name: ast.unparse(item.body[-1]) for item in node.body if isinstance(item, ast.FunctionDef)}
+            if "__lt__" in told:
+                self.assertEqual(node.bases, [], where)
+                key = told["__lt__"].partition(" < ")[0].removeprefix("return ")
+                other = key.replace("self.", "other.")
+                self.assertEqual(told["__eq__"], f"return isinstance(other, {node.name}) and {key} == {other}")
+                for name, sign in (("__lt__", "<"), ("__le__", "<="), ("__gt__", ">"), ("__ge__", ">=")):
+                    self.assertEqual(told[name], f"return {key} {sign} {other}", where)
+
     def test_docstrings(self):
         for name, tree in self.trees.items():
             self.assertTrue(re.match(r"[A-Z].*\.", ast.get_docstring(tree) or ""), name)
