@@ -15,14 +15,14 @@ def all_profiles(colors, depth):
     """The ascending list of the profiles of a depth of all lines with so many colors."""
     _check(colors, depth)
     found = AllProfiles(colors, depth)
-    return sorted([found.table.profile(number) for number in found.terms()])
+    return sorted([found.table.profile(number) for number in found.by_number()])
 
 
 def term_with(profile, colors, depth):
     """A term of so many colors that has a profile of a depth, or None for any value that no line has."""
     _check(colors, depth)
     found = AllProfiles(colors, depth)
-    for number, term in found.terms().items():
+    for number, term in found.by_number().items():
         if found.table.profile(number) == profile:
             return term
     return None
@@ -34,7 +34,7 @@ def is_shut(profiles, colors, depth):
     found = AllProfiles(colors, depth)
     # All lines with these colors have the profiles that are found, so a list of some of them that
     # is shut has just these.
-    return sorted(set([found.table.numbered(profile) for profile in profiles])) == sorted(found.terms())
+    return sorted(set([found.table.numbered(profile) for profile in profiles])) == sorted(found.by_number())
 
 
 def model(formulas, *, colors=1):
@@ -68,7 +68,7 @@ def _term_that(formulas, others, colors):
     depth = max([depth_of(formula) for formula in together], default=0)
     _check(colors, depth)
     found = AllProfiles(colors, depth)
-    for number, term in found.terms().items():
+    for number, term in found.by_number().items():
         profile = found.table.profile(number)
         if all([satisfies(profile, depth, formula) for formula in formulas]):
             if not any([satisfies(profile, depth, formula) for formula in others]):

@@ -13,7 +13,7 @@ class AllProfiles:
         self._depth = depth
         # By numbers of profiles, in the order in which they were found.
         self._terms = {0: Term.empty()}
-        self._found = [0]
+        self._order = [0]
         # The profiles that were not found as sums, each with how many others it has been put behind.
         self._makers = []
         self._reached = []
@@ -23,14 +23,14 @@ class AllProfiles:
             self._add_maker(self.table.of_spot(color, depth), Term.spot(color))
         self._close()
 
-    def terms(self):
+    def by_number(self):
         """A dict from the numbers of the profiles to terms."""
-        return {number: self._terms[number] for number in self._found}
+        return {number: self._terms[number] for number in self._order}
 
     def _close(self):
         at = 0
-        while at < len(self._found):
-            number = self._found[at]
+        while at < len(self._order):
+            number = self._order[at]
             term = self._terms[number]
             self._add_maker(self.table.of_up(number, self._depth), term.up())
             self._add_maker(self.table.of_down(number, self._depth), term.down())
@@ -43,7 +43,7 @@ class AllProfiles:
         if number in self._terms:
             return False
         self._terms[number] = term
-        self._found.append(number)
+        self._order.append(number)
         return True
 
     def _add_maker(self, number, term):
@@ -55,7 +55,7 @@ class AllProfiles:
         """Takes in the sums of the first profiles that were found and of each maker."""
         # Each profile is a sum of makers, so that no other sums need be looked at.
         for at, maker in enumerate(self._makers):
-            for number in self._found[self._reached[at]:many]:
+            for number in self._order[self._reached[at]:many]:
                 total = self.table.of_sum(number, maker, self._depth)
                 if total not in self._terms:
                     self._add(total, self._terms[number] + self._terms[maker])

@@ -42,7 +42,7 @@ class Duel:
             raise WrongColor(color)
         words = (chosen, word) if side == 0 else (word, chosen)
         pairs = list(zip(self._books, words))
-        one, other = [WordTriples(book, self._table, self._least).triple(told) for book, told in pairs]
+        one, other = [WordTriples(book, self._table, self._least).of_word(told) for book, told in pairs]
         if one[1] != other[1]:
             direction, books = "below", [below(book, told) for book, told in pairs]
         else:
@@ -98,7 +98,7 @@ def reply(one, other, side, word, depth):
     if numbers[0] != numbers[1]:
         raise Unlike(depth, "")
     _check_asked(books, side, word)
-    triple = WordTriples(books[side], table, depth).triple(word)
+    triple = WordTriples(books[side], table, depth).of_word(word)
     found = WordTriples(books[1 - side], table, depth).first_with([triple])
     if found is None:
         raise TooMany(MOST_WORDS)

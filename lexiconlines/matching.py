@@ -27,7 +27,7 @@ class Matching:
         """The word with which a word of the book of a side is in a pair, now at the latest."""
         if not is_number_in(side, 0, 1):
             raise InvalidNumber(side)
-        self._book(side).check(word)
+        self._book_of(side).check(word)
         low = high = None
         for pair in self._pairs:
             if pair[side] == word:
@@ -63,21 +63,21 @@ class Matching:
     def __repr__(self):
         return f"Matching({len(self._pairs)} pairs)"
 
-    def _book(self, side):
+    def _book_of(self, side):
         return self.one if side == 0 else self.other
 
     def _sought(self, side, word, pairs):
         """The first word of the other book that can be the mate of a word between two pairs, or None for an end."""
         own, other = self._stretches[side], self._stretches[1 - side]
-        color = self._book(side).color_of(word)
+        color = self._book_of(side).color_of(word)
         low, high = [None if pair is None else pair[side] for pair in pairs]
-        ahead, behind = self._keys.told(own.parts(low, word)), self._keys.told(own.parts(word, high))
+        ahead, behind = self._keys.told(own.lines(low, word)), self._keys.told(own.lines(word, high))
         low, high = [None if pair is None else pair[1 - side] for pair in pairs]
-        book = self._book(1 - side)
+        book = self._book_of(1 - side)
         net = _net_between(book, low, high)
         for found in net_words(net, MOST_WORDS):
-            if book.color_of(found) == color and self._keys.is_told(other.parts(low, found), ahead):
-                if self._keys.is_told(other.parts(found, high), behind):
+            if book.color_of(found) == color and self._keys.is_told(other.lines(low, found), ahead):
+                if self._keys.is_told(other.lines(found, high), behind):
                     return found
         raise TooMany(MOST_WORDS)
 

@@ -2,8 +2,7 @@
 
 from lexiconlines.cuts import net_above, net_below
 from lexiconlines.dense import has_dense_words, is_dense_order
-from lexiconlines.falls import (
-    falls_to, is_above_all, is_below_all, is_fall, is_rise, is_row_of_words, rises_to)
+from lexiconlines.falls import falls_to, is_above_all, is_below_all, is_fall, is_rise, is_row_of_words, rises_to
 from lexiconlines.formulas import depth_of, is_formula
 from lexiconlines.keys import Ladder
 from lexiconlines.ladders import Keys
@@ -111,10 +110,10 @@ def _mate(told, one, other):
     if color != other.color_of(mate):
         return "color"
     keys = Keys()
-    lines, others = Stretches(one), Stretches(other)
-    if not keys.is_told(others.parts(None, mate), keys.told(lines.parts(None, word))):
+    first, second = Stretches(one), Stretches(other)
+    if not keys.is_told(second.lines(None, mate), keys.told(first.lines(None, word))):
         return "below"
-    return "" if keys.is_told(others.parts(mate, None), keys.told(lines.parts(word, None))) else "above"
+    return "" if keys.is_told(second.lines(mate, None), keys.told(first.lines(word, None))) else "above"
 
 
 def _part(told, one, other):

@@ -39,7 +39,7 @@ class Spots:
 
     def _view(self, word):
         """The view of a word at level 0."""
-        low, high = self._stretches.parts(None, word), self._stretches.parts(word, None)
+        low, high = self._stretches.lines(None, word), self._stretches.lines(word, None)
         return sum_of(low), self._book.color_of(word), sum_of(high)
 
     def _next_view(self, n, view):

@@ -18,13 +18,13 @@ class Stretches:
         self._lows = {}
         self._highs = {}
 
-    def parts(self, low, high):
+    def lines(self, low, high):
         """The list of the terms whose sum is the line of the words above low and below high.
 
         Both are words of the book, or None.
         """
         if low is None and high is None:
-            return self._lines(0, [""])
+            return self._lines_of(0, [""])
         if low is None:
             return self._below(high, 0)
         if high is None:
@@ -32,7 +32,7 @@ class Stretches:
         at = _shared_length(low, high)
         node = trail(self._net, 0, low[:at])[-1]
         middle = [letter for letter in PLACES if low[at:at + 1] < letter < high[at]]
-        return self._above(low, at + 1) + self._lines(node, middle) + self._below(high, at + 1)
+        return self._above(low, at + 1) + self._lines_of(node, middle) + self._below(high, at + 1)
 
     def _below(self, word, least_length):
         """The terms of the words below a word that share its first letters, at least so many."""
@@ -42,7 +42,7 @@ class Stretches:
             if step not in self._lows:
                 node, letter = step
                 color = self._net[node][0]
-                lines = self._lines(node, [other for other in PLACES if other < letter])
+                lines = self._lines_of(node, [other for other in PLACES if other < letter])
                 self._lows[step] = ([] if color == "" else [single(color)]) + lines
             parts.extend(self._lows[step])
         return parts
@@ -52,15 +52,15 @@ class Stretches:
         if len(word) < least_length:
             return []
         nodes = trail(self._net, 0, word)
-        parts = self._lines(nodes[-1], list(PLACES))
+        parts = self._lines_of(nodes[-1], list(PLACES))
         for step in list(zip(nodes, word))[least_length:][::-1]:
             if step not in self._highs:
                 node, letter = step
-                self._highs[step] = self._lines(node, [other for other in PLACES if other > letter])
+                self._highs[step] = self._lines_of(node, [other for other in PLACES if other > letter])
             parts.extend(self._highs[step])
         return parts
 
-    def _lines(self, node, letters):
+    def _lines_of(self, node, letters):
         """The plain terms of the nodes to which a node leads by some letters, or by the empty string."""
         nodes = [walked(self._net, node, letter) for letter in letters]
         terms = [self._plain.term(other) for other in nodes if other is not None]

@@ -12,7 +12,7 @@ def triple_of(book, word, depth):
     check_depth(depth, 1)
     book.check(word)
     table = ProfileTable()
-    color, low, high = WordTriples(book, table, depth).triple(word)
+    color, low, high = WordTriples(book, table, depth).of_word(word)
     return (color, table.profile(low), table.profile(high))
 
 

@@ -14,7 +14,7 @@ class WordTriples:
         self._depth = depth
         self._stretches = Stretches(book)
 
-    def triple(self, word):
+    def of_word(self, word):
         """The triple of a word."""
         return (self._book.color_of(word), self._low(word), self._high(word))
 
@@ -27,12 +27,12 @@ class WordTriples:
         lows = {(color, low): True for color, low, _ in triples}
         for word in by_length(self._book, MOST_WORDS):
             color = self._book.color_of(word)
-            if color in colors and (color, self._low(word)) in lows and self.triple(word) in wanted:
+            if color in colors and (color, self._low(word)) in lows and self.of_word(word) in wanted:
                 return word
         return None
 
     def _low(self, word):
-        return self._table.of_terms(self._stretches.parts(None, word), self._depth - 1)
+        return self._table.of_terms(self._stretches.lines(None, word), self._depth - 1)
 
     def _high(self, word):
-        return self._table.of_terms(self._stretches.parts(word, None), self._depth - 1)
+        return self._table.of_terms(self._stretches.lines(word, None), self._depth - 1)
