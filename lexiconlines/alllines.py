@@ -69,8 +69,17 @@ def _term_that(formulas, others, colors):
     _check(colors, depth)
     found = AllProfiles(colors, depth)
     for number, term in found.by_number().items():
-        profile = found.table.profile(number)
-        if all([satisfies(profile, depth, formula) for formula in formulas]):
-            if not any([satisfies(profile, depth, formula) for formula in others]):
-                return term
+        if _fits(found.table.profile(number), depth, formulas, others):
+            return term
     return None
+
+
+def _fits(profile, depth, formulas, others):
+    """Whether the lines with a profile satisfy some formulas and none of some other ones."""
+    for formula in formulas:
+        if not satisfies(profile, depth, formula):
+            return False
+    for formula in others:
+        if satisfies(profile, depth, formula):
+            return False
+    return True

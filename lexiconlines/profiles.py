@@ -85,12 +85,23 @@ def check_depth(value, least):
 def _satisfies(profile, formula):
     word = formula[0]
     if word == "some":
-        return any([color == formula[1] and _satisfies(low, formula[2]) and _satisfies(high, formula[3])
-                    for color, low, high in profile])
+        return _has_spot(profile, formula)
     if word == "not":
         return not _satisfies(profile, formula[1])
-    if word == "and":
-        return all([_satisfies(profile, part) for part in formula[1:]])
-    if word == "or":
-        return any([_satisfies(profile, part) for part in formula[1:]])
+    if word in ("and", "or"):
+        # One part that is not satisfied settles and; one that is settles or.
+        settles = word == "or"
+        for part in formula[1:]:
+            if _satisfies(profile, part) == settles:
+                return settles
+        return not settles
     return word == "true"
+
+
+def _has_spot(profile, formula):
+    """Whether some triple of a profile satisfies what a formula tells of a spot."""
+    _, wanted, below, above = formula
+    for color, low, high in profile:
+        if color == wanted and _satisfies(low, below) and _satisfies(high, above):
+            return True
+    return False
